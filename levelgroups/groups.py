@@ -1,4 +1,4 @@
-"""The calls: how wide groups of children are, by the children's levels."""
+"""The calls: how wide groups of children are, by their levels, and which are best."""
 
 MOST_CHILDREN = 9
 MOST_LEVEL = 1000
@@ -21,6 +21,26 @@ def looks(n, size, levels, groups):
         return [-28]
     spreads = [spread(members) for members in grouped]
     return [sum(spreads), max(spreads)]
+
+
+def best(n, size, levels):
+    """Answer the least that all spreads together can be, and the pieces that have it.
+
+    The pieces are told by how many they are and how many children each has,
+    from the least level on. The answer is -22 alone where the call isn't as
+    told, and -33 alone where there are more children than the groups take.
+    """
+    if not (counts_are_right(n, size) and levels_are_right(levels)):
+        return [-22]
+    if len(levels) > n * size:
+        return [-33]
+    row = sorted(levels)
+    cuts = cuts_in_order(n, size, len(row))
+    totals = [sum(piece_spreads(row, cut)) for cut in cuts]
+    least = min(totals)
+    # The cuts stand in their order, so the first that is as good is the one to tell.
+    told = cuts[totals.index(least)]
+    return [least, len(told)] + told
 
 
 def counts_are_right(n, size):
@@ -52,3 +72,33 @@ def spread(members):
     if not members:
         return 0
     return max(members) - min(members)
+
+
+def cuts_in_order(n, size, children):
+    """Give every cut of a row of so many children, told by its pieces' lengths.
+
+    Of two cuts stands first which has the shorter piece where they first differ.
+    """
+    cuts = []
+    begun = [[]]
+    while begun:
+        lengths = begun.pop()
+        left = children - sum(lengths)
+        if left == 0:
+            cuts.append(lengths)
+        elif len(lengths) < n:
+            # What is put in last is gone on with first: that must be the shortest piece.
+            for length in range(min(size, left), 0, -1):
+                begun.append(lengths + [length])
+    return cuts
+
+
+def piece_spreads(row, lengths):
+    """Give the spread of each piece of a row that is cut into these lengths."""
+    spreads = []
+    start = 0
+    for length in lengths:
+        end = start + length
+        spreads.append(spread(row[start:end]))
+        start = end
+    return spreads

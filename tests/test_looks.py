@@ -15,13 +15,26 @@ def greatest_difference(levels, groups, group):
     return max(differences, default=0)
 
 
+def refuse_change(*_, **__):
+    raise AssertionError("what is handed in was changed")
+
+
+class Unchanging(list):
+    """A list that fails where it is changed, if for a while only."""
+
+    append = clear = extend = insert = pop = remove = reverse = sort = refuse_change
+    __setitem__ = __delitem__ = __iadd__ = __imul__ = refuse_change
+
+
 class Answers(unittest.TestCase):
     """Asks looks and compares all that it answers."""
 
     def answers(self, expected, n, size, levels, groups):
         with self.subTest(n=n, size=size, levels=levels, groups=groups):
+            before = list(levels), list(groups)
             answer = looks(n, size, levels, groups)
             self.assertEqual(answer, expected)
+            self.assertEqual((levels, groups), before)
             self.assertIs(type(answer), list)
             self.assertEqual([type(number) for number in answer], [int] * len(answer))
 
@@ -220,10 +233,8 @@ class EachCallByItself(Answers):
 
     def test_what_is_handed_in_stays_as_it_was(self):
         for expected, n, size, levels, groups in self.CALLS:
-            levels_given, groups_given = list(levels), list(groups)
-            self.answers(expected, n, size, levels_given, groups_given)
-            self.assertEqual(levels_given, levels)
-            self.assertEqual(groups_given, groups)
+            self.answers(expected, n, size, list(levels), list(groups))
+            self.answers(expected, n, size, Unchanging(levels), Unchanging(groups))
 
     def test_called_twice_it_answers_alike(self):
         for expected, n, size, levels, groups in self.CALLS:
@@ -236,8 +247,11 @@ class EachCallByItself(Answers):
 
     def test_an_answer_that_is_changed_does_not_change_the_next(self):
         for expected, n, size, levels, groups in self.CALLS:
-            looks(n, size, levels, groups).append(77)
-            self.answers(expected, n, size, levels, groups)
+            levels_given, groups_given = list(levels), list(groups)
+            answer = looks(n, size, levels_given, groups_given)
+            answer.append(77)
+            answer[0] = 78
+            self.answers(expected, n, size, levels_given, groups_given)
 
 
 if __name__ == "__main__":
