@@ -1,4 +1,4 @@
-"""The calls: how wide groups of children are, by their levels, and which are best."""
+"""The calls: how wide groups of children are, by their levels, and which are best or most even."""
 
 MOST_CHILDREN = 9
 MOST_LEVEL = 1000
@@ -30,17 +30,37 @@ def best(n, size, levels):
     from the least level on. The answer is -22 alone where the call isn't as
     told, and -33 alone where there are more children than the groups take.
     """
-    if not (counts_are_right(n, size) and levels_are_right(levels)):
-        return [-22]
-    if len(levels) > n * size:
-        return [-33]
+    refusal = refusal_of_pieces(n, size, levels)
+    if refusal < 0:
+        return [refusal]
     row = sorted(levels)
     cuts = cuts_in_order(n, size, len(row))
     totals = [sum(piece_spreads(row, cut)) for cut in cuts]
-    least = min(totals)
-    # The cuts stand in their order, so the first that is as good is the one to tell.
-    told = cuts[totals.index(least)]
-    return [least, len(told)] + told
+    return first_of_least(totals, cuts)
+
+
+def even(n, size, levels):
+    """Answer the least that the greatest spread can be, and the pieces that have it.
+
+    The pieces are told, and the call is refused, as by best.
+    """
+    refusal = refusal_of_pieces(n, size, levels)
+    if refusal < 0:
+        return [refusal]
+    row = sorted(levels)
+    cuts = cuts_in_order(n, size, len(row))
+    # Without children there is no piece, so no spread is above 0.
+    widest = [max(piece_spreads(row, cut), default=0) for cut in cuts]
+    return first_of_least(widest, cuts)
+
+
+def refusal_of_pieces(n, size, levels):
+    """Give the refusal of a row that isn't to be cut, or 0 where it's cut."""
+    if not (counts_are_right(n, size) and levels_are_right(levels)):
+        return -22
+    if len(levels) > n * size:
+        return -33
+    return 0
 
 
 def counts_are_right(n, size):
@@ -102,3 +122,11 @@ def piece_spreads(row, lengths):
         spreads.append(spread(row[start:end]))
         start = end
     return spreads
+
+
+def first_of_least(spreads, cuts):
+    """Give the least of the spreads that the cuts have, and the first cut that has it."""
+    least = min(spreads)
+    # The cuts stand in their order, so the first that is as good is the one to tell.
+    told = cuts[spreads.index(least)]
+    return [least, len(told)] + told
