@@ -1,9 +1,10 @@
-"""The calls: how wide groups of children are, by their levels, and which are best or most even."""
+"""The calls: how wide groups of children are, which are best or most even, and how few are enough."""
 
 MOST_CHILDREN = 9
 MOST_LEVEL = 1000
 MOST_GROUPS = 9
 MOST_SIZE = 9
+MOST_SPREAD = 1000
 
 
 def looks(n, size, levels, groups):
@@ -54,6 +55,16 @@ def even(n, size, levels):
     return first_of_least(widest, cuts)
 
 
+def few(size, most, levels):
+    """Answer how few pieces are enough, so that no spread is above most.
+
+    The answer is -22 alone where the call isn't as told.
+    """
+    if not (size_is_right(size) and most <= MOST_SPREAD and levels_are_right(levels)):
+        return [-22]
+    return [pieces_enough(sorted(levels), size, most)]
+
+
 def refusal_of_pieces(n, size, levels):
     """Give the refusal of a row that isn't to be cut, or 0 where it's cut."""
     if not (counts_are_right(n, size) and levels_are_right(levels)):
@@ -65,7 +76,12 @@ def refusal_of_pieces(n, size, levels):
 
 def counts_are_right(n, size):
     """Tell whether there may be n groups of at most size children each."""
-    return 1 <= n <= MOST_GROUPS and 1 <= size <= MOST_SIZE
+    return 1 <= n <= MOST_GROUPS and size_is_right(size)
+
+
+def size_is_right(size):
+    """Tell whether a group may have at most size children."""
+    return 1 <= size <= MOST_SIZE
 
 
 def levels_are_right(levels):
@@ -130,3 +146,23 @@ def first_of_least(spreads, cuts):
     # The cuts stand in their order, so the first that is as good is the one to tell.
     told = cuts[spreads.index(least)]
     return [least, len(told)] + told
+
+
+def pieces_enough(row, size, most):
+    """Give how many pieces a row needs, so that no spread is above most."""
+    pieces = 0
+    start = 0
+    while start < len(row):
+        # A piece that goes as far as it may leaves the fewest children to the others.
+        start = farthest_end(row, start, size, most)
+        pieces = pieces + 1
+    return pieces
+
+
+def farthest_end(row, start, size, most):
+    """Give where the piece that begins at start ends, if it's as long as may be."""
+    last = min(start + size, len(row))
+    end = start
+    while end < last and row[end] - row[start] <= most:
+        end = end + 1
+    return end
